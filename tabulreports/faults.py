@@ -1,11 +1,11 @@
 """A report's text taken apart: its lines, its parts, its passes, and why it's refused if it is."""
 
+from tabulreports.cards import COLUMNS
 from tabulreports.forms import LINE_END, read_line
 
 MOST_BYTES = 4096
 MOST_LINES = 64
 MOST_PASSES = 250
-MOST_COLUMNS = 80
 MOST_AMOUNT_COLUMNS = 18
 MOST_PLACES = 132
 
@@ -66,7 +66,7 @@ def report_passes(parts):
 
 def has_field(numbers):
     """Whether there's a field (C, N) on a card."""
-    return numbers["C"] + numbers["N"] <= MOST_COLUMNS
+    return numbers["C"] + numbers["N"] <= COLUMNS
 
 
 def has_room(part):

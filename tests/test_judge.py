@@ -5,20 +5,8 @@ import io
 import random
 import unittest
 
+from making import RUN, Watched, text_of
 from tabulreports.reports import judge
-
-RUN = [
-    "where 0 0 yes",
-    "key 0 1 at 0 by holes",
-    "sum 1 3 at 10 8",
-    "count at 20 4",
-    "see 0 4 at 0",
-    "list all",
-]
-
-
-def text_of(*lines):
-    return list("".join(line + "\n" for line in lines).encode("ascii"))
 
 
 def judged(*lines):
@@ -389,16 +377,6 @@ class SeveralFaults(Cases):
     def test_kind_2_before_kind_3(self):
         self.fault(2, 1, 0, "see 0 1 at 0", "count at 0 2")
         self.fault(2, 0, 0, "sum 0 19 at 0 2")
-
-
-class Watched(list):
-    """A list that can't be changed."""
-
-    def refuse(self, *given, **named):
-        raise AssertionError("what was handed in is changed")
-
-    append = clear = extend = insert = pop = remove = reverse = sort = refuse
-    __setitem__ = __delitem__ = __iadd__ = __imul__ = refuse
 
 
 class HandedIn(unittest.TestCase):
