@@ -1,8 +1,13 @@
-"""Cards and decks: how they're told as numbers, and what is punched in a column."""
+"""Cards and decks: how they're told as numbers, and what their columns and fields say."""
 
 COLUMNS = 80
 MOST_HOLES = 4095
 MOST_CARDS = 1000
+CODES = 64
+
+# Each figure by its single hole.
+FIGURES = {4: 0, 8: 1, 16: 2, 32: 3, 64: 4, 128: 5, 256: 6, 512: 7, 1024: 8, 2048: 9}
+MINUS_ROW = 1
 
 NO_DECK = -8
 
@@ -70,3 +75,56 @@ def top_rank(holes):
 def field_of(card, column, length):
     """The holes of a field's columns."""
     return card[column:column + length]
+
+
+def row_holes(row):
+    """The holes of a column in which a row alone is punched."""
+    return 1 << row
+
+
+def figure_holes(figure):
+    """The holes of a figure."""
+    return row_holes(figure + 2)
+
+
+def code_holes(number):
+    """The holes of a number from 0 to 63 by the code."""
+    zone = number // 16
+    value = number % 16
+    holes = 0
+    if zone > 0:
+        holes = row_holes(zone - 1)
+    if value > 9:
+        return holes | figure_holes(8) | figure_holes(value - 8)
+    if value > 0:
+        return holes | figure_holes(value)
+    return holes
+
+
+def figures_value(field):
+    """The number that a field's columns say, behind those without holes (None: they say none)."""
+    value = 0
+    begun = False
+    for holes in field[:-1]:
+        if holes in FIGURES:
+            value = value * 10 + FIGURES[holes]
+            begun = True
+        elif begun or holes:
+            return None
+    # The last column has a figure in any case.
+    if field[-1] not in FIGURES:
+        return None
+    return value * 10 + FIGURES[field[-1]]
+
+
+def amount_of(card, column, length):
+    """The amount in a field (None: it has none)."""
+    field = field_of(card, column, length)
+    if not has_row(field[-1], MINUS_ROW):
+        return figures_value(field)
+    field[-1] -= row_holes(MINUS_ROW)
+    value = figures_value(field)
+    # There's no nought below 0.
+    if not value:
+        return None
+    return -value

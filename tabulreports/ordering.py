@@ -1,11 +1,7 @@
 """Which cards a report means, and in which order they stand."""
 
 from tabulreports.cards import field_of, has_row, top_rank
-
-
-def parts_of(parts, words):
-    """The parts that begin with one of the words, in their order."""
-    return [part for part in parts if part.word in words]
+from tabulreports.parts import keys_of, wheres_of
 
 
 def is_meant(card, wheres):
@@ -40,8 +36,8 @@ def card_ranks(card, keys):
 
 def meant_in_order(parts, cards):
     """The cards that a report means, in its order."""
-    wheres = parts_of(parts, ("where",))
-    keys = parts_of(parts, ("key",))
+    wheres = wheres_of(parts)
+    keys = keys_of(parts)
     meant = [card for card in cards if is_meant(card, wheres)]
     # Alike cards stay as they lay: sorted never turns them round.
     return sorted(meant, key=lambda card: card_ranks(card, keys))

@@ -2,6 +2,8 @@
 
 from tabulreports.cards import NO_DECK, read_deck, tell_deck
 from tabulreports.faults import read_report, report_passes
+from tabulreports.lines import NO_SIGNS, read_signs, tell_lines
+from tabulreports.meaning import NOT_MET, meant_paper
 from tabulreports.ordering import meant_in_order
 
 
@@ -23,3 +25,20 @@ def order(text, deck):
         return [NO_DECK]
     meant = meant_in_order(report.parts, cards)
     return [len(meant)] + tell_deck(meant)
+
+
+def paper(strange, text, legend, deck):
+    """How many lines the paper has that a report means of a deck, then they; or the refusal."""
+    report = read_report(text)
+    if report.refusal:
+        return report.refusal
+    signs = read_signs(strange, legend)
+    if signs is None:
+        return [NO_SIGNS]
+    cards = read_deck(deck)
+    if cards is None:
+        return [NO_DECK]
+    lines = meant_paper(report.parts, meant_in_order(report.parts, cards), signs)
+    if lines is None:
+        return [NOT_MET]
+    return [len(lines)] + tell_lines(lines)

@@ -3,6 +3,10 @@
 A card is a dict from columns to holes here; a report is the list of its lines, without line ends, and has no fault.
 """
 
+import re
+
+from making import SIGNS, holes_of
+
 
 def words_of(lines, *firsts):
     """The lines that begin with one of the words: for each its words, numbers as numbers."""
@@ -46,3 +50,84 @@ def ordered_cards(lines, cards):
             before += held < 0 or (held == 0 and other_index < index)
         ordered[before] = card
     return ordered
+
+
+def amount(card, column, length):
+    """The amount of a field, or None: the field is written as a text and held against a pattern."""
+    written = ""
+    for offset in range(length):
+        rows = rows_of(card.get(column + offset, 0))
+        minus = offset == length - 1 and 1 in rows
+        figures = [row - 2 for row in rows if not (minus and row == 1)]
+        written += str(figures[0]) if len(figures) == 1 and figures[0] >= 0 else "?" if figures else " "
+        written += "-" if minus else ""
+    if not re.fullmatch(" *[0-9]+-?", written) or re.fullmatch(" *0+-", written):
+        return None
+    return -int(written[:-1]) if written.endswith("-") else int(written)
+
+
+def stretches(lines, cards, level):
+    """The groups of a level, as (first, behind the last): those of level k + 1 are all cards together."""
+    keys = words_of(lines, "key")
+    fields = [[card.get(key[1] + offset, 0) for key in keys[:len(keys) + 1 - level] for offset in range(key[2])]
+              for card in cards]
+    starts = [index for index in range(len(cards)) if index == 0 or fields[index] != fields[index - 1]]
+    return list(zip(starts, starts[1:] + [len(cards)]))
+
+
+def is_met(lines, cards):
+    """Whether a report can be met of its meant cards in their order."""
+    for word, column, length, at, place, width in words_of(lines, "sum"):
+        amounts = [amount(card, column, length) for card in cards]
+        if any(found is None for found in amounts):
+            return False
+        for level in range(1, len(words_of(lines, "key")) + 2):
+            for first, behind in stretches(lines, cards, level):
+                if any(abs(sum(amounts[first:end])) >= 10 ** 16 for end in range(first, behind + 1)):
+                    return False
+    return True
+
+
+def laid(things):
+    """A line of (place, text) things."""
+    line = " " * 132
+    for place, text in things:
+        line = line[:place] + text + line[place + len(text):]
+    return line
+
+
+def field_thing(words, card, legend, strange):
+    shown = {holes_of(sign): chr(legend[number]) for number, sign in enumerate(SIGNS)}
+    field = [card.get(words[1] + offset, 0) for offset in range(words[2])]
+    return words[4], "".join(shown.get(holes, chr(strange)) for holes in field)
+
+
+def total_thing(words, cards):
+    number = len(cards) if words[0] == "count" else sum(amount(card, words[1], words[2]) for card in cards)
+    place, width = words[-2:]
+    text = "%d%s" % (abs(number), "-" if number < 0 else " ")
+    return place, text.rjust(width) if len(text) <= width else "*" * width
+
+
+def paper_lines(strange, lines, legend, cards):
+    """The paper's lines as texts, or None if the report can't be met."""
+    ordered = ordered_cards(lines, cards)
+    keys, totals = words_of(lines, "key"), words_of(lines, "sum", "count")
+    if not is_met(lines, ordered):
+        return None
+    groups = {level: stretches(lines, ordered, level) for level in range(1, len(keys) + 2)}
+    firsts = [first for first, behind in groups[1]]
+    made = []
+    for index in range(len(ordered) + 1):
+        for level in range(1, len(keys) + 1):
+            for first, behind in groups[level]:
+                if behind == index:
+                    above = keys[:len(keys) + 1 - level]
+                    shown = [field_thing(key, ordered[index - 1], legend, strange) for key in above]
+                    made.append(laid(shown + [total_thing(total, ordered[first:behind]) for total in totals]))
+        if index < len(ordered) and (lines[-1] == "list all" or (lines[-1] == "list first" and index in firsts)):
+            seens = words_of(lines, "see")
+            made.append(laid([field_thing(seen, ordered[index], legend, strange) for seen in seens]))
+    if totals:
+        made.append(laid([total_thing(total, ordered) for total in totals]))
+    return made
