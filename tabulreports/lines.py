@@ -60,11 +60,3 @@ def put_upon(line, place, shown):
     """Puts bytes upon a line from a place on, over what stands there."""
     for offset, byte in enumerate(shown):
         line[place + offset] = byte
-
-
-def tell_lines(lines):
-    """The bytes of all lines, one behind another."""
-    told = []
-    for line in lines:
-        told.extend(line)
-    return told

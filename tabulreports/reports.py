@@ -2,9 +2,11 @@
 
 from tabulreports.cards import NO_DECK, read_deck, tell_deck
 from tabulreports.faults import read_report, report_passes
-from tabulreports.lines import NO_SIGNS, read_signs, tell_lines
+from tabulreports.lines import NO_SIGNS, read_signs
 from tabulreports.meaning import NOT_MET, meant_paper
 from tabulreports.ordering import meant_in_order
+from tabulreports.plans import make_plan, tell_plan
+from tabulreports.rows import join_rows
 
 
 def judge(text):
@@ -41,4 +43,14 @@ def paper(strange, text, legend, deck):
     lines = meant_paper(report.parts, meant_in_order(report.parts, cards), signs)
     if lines is None:
         return [NOT_MET]
-    return [len(lines)] + tell_lines(lines)
+    return [len(lines)] + join_rows(lines)
+
+
+def plan(strange, text, legend):
+    """A report's plan: its passes, its panel, its setup's numbers and its job; or the refusal."""
+    report = read_report(text)
+    if report.refusal:
+        return report.refusal
+    if read_signs(strange, legend) is None:
+        return [NO_SIGNS]
+    return tell_plan(make_plan(report.parts, strange))

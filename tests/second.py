@@ -88,6 +88,40 @@ def is_met(lines, cards):
     return True
 
 
+def plan_pieces(strange, lines):
+    """The five pieces of the plan: two texts and three lists of numbers, the texts where the document has them."""
+    wires = []
+    wheres, keys = words_of(lines, "where"), words_of(lines, "key")
+    for i, (word, column, row, how) in enumerate(wheres):
+        wires.append(f"read {column} > look {i}")
+        wires += {"yes": [f"hole {i} {row} > by {16 + i}"],
+                  "no": [f"hole {i} {row} > by {i}", f"send 1 > plain {i}", f"chosen {i} > by {16 + i}"]}[how]
+        wires.append(f"chosen {15 + i} > other {16 + i}" if i else "send 1 > other 16")
+    wires.append(f"chosen {15 + len(wheres)} > to 0" if wheres else "send 1 > to 0")
+
+    job = ["choose A 0 > B C"]
+    for word, column, length, at, place, by, how in keys[::-1]:
+        for x in range(column, column + length)[::-1]:
+            job += [f"pass C {x} {2 ** r} > C" for r in range(12)] if how == "holes" else [f"pass C {x} 4095 > C"]
+    job.append("account C 0 1 > D")
+
+    by_level = {len(keys) - index: key for index, key in enumerate(keys)}
+    head = [number for level in (1, 2, 3) for number in by_level.get(level, (0, 0, 0))[1:3]]
+    head += [["list none", "list all", "list first"].index(lines[-1]), 0, strange]
+    counters, things = [], []
+    for word, column, length, at, place in words_of(lines, "see"):
+        things += [0, 0, column, length, place, 0]
+    for level in sorted(by_level) + [4]:
+        for above in (3, 2, 1):
+            if level <= above <= len(keys):
+                word, column, length, at, place, by, how = by_level[above]
+                things += [level, 0, column, length, place, 0]
+        for words in words_of(lines, "sum", "count"):
+            things += [level, 1, len(counters) // 6, 0] + words[-2:]
+            counters += [level, 0] + words[1:3] + [0, 0] if words[0] == "sum" else [level, 2, 0, 0, 0, 0]
+    return "\n".join(wires) + "\n", head, counters, things, "\n".join(job) + "\n"
+
+
 def laid(things):
     """A line of (place, text) things."""
     line = " " * 132

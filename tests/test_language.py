@@ -155,6 +155,71 @@ class Language(unittest.TestCase):
         self.assertRegex(name, r"^[A-Za-z][A-Za-z0-9_]*$")
         self.assertNotIn(name, UNUSED)
 
+    @each_module
+    def test_what_is_walked_is_walked_on_the_spot(self, source, tree):
+        allowed = []
+        for node in ast.walk(tree):
+            if isinstance(node, (ast.For, ast.comprehension)):
+                allowed.append(node.iter)
+            if isinstance(node, ast.Call) and isinstance(node.func, ast.Name) and node.args:
+                if node.func.id in "list tuple dict sorted sum any all enumerate zip".split():
+                    allowed.append(node.args[0])
+                if node.func.id in ("min", "max") and len(node.args) == 1:
+                    allowed.append(node.args[0])
+        for node in ast.walk(tree):
+            if isinstance(node, ast.Call):
+                called = getattr(node.func, "id", None) or getattr(node.func, "attr", None)
+                if called in "zip enumerate reversed range items keys values".split():
+                    self.assertIn(node, allowed, (called, node.lineno))
+
+    @each_module
+    def test_powers_and_sets(self, source, tree):
+        beside = []
+        for node in ast.walk(tree):
+            if isinstance(node, ast.BinOp) and isinstance(node.op, ast.Pow):
+                self.assertIsInstance(node.right, ast.Constant)
+            if isinstance(node, ast.Compare):
+                beside += [node.left] + node.comparators
+            if isinstance(node, ast.Call) and isinstance(node.func, ast.Name) and node.func.id in ("len", "sorted"):
+                beside += node.args
+        for node in ast.walk(tree):
+            if isinstance(node, ast.Call) and isinstance(node.func, ast.Name) and node.func.id == "set":
+                self.assertIn(node, beside)
+
+    @each_module
+    def test_locals_hide_no_class_and_no_import(self, source, tree):
+        top = [node.name for node in tree.body if isinstance(node, ast.ClassDef)]
+        top += [alias.name for node in tree.body if isinstance(node, ast.ImportFrom) for alias in node.names]
+        for node in ast.walk(tree):
+            if isinstance(node, ast.Name) and isinstance(node.ctx, ast.Store):
+                self.assertNotIn(node.id, top)
+            if isinstance(node, ast.arg):
+                self.assertNotIn(node.arg, top)
+
+    def test_no_two_files_draw_from_one_another(self):
+        drawn = {}
+        for path in modules():
+            tree = ast.parse(path.read_text())
+            drawn[path.stem] = [node.module.split(".")[1] for node in tree.body if isinstance(node, ast.ImportFrom)]
+        while drawn:
+            free = [name for name in drawn if not any(other in drawn for other in drawn[name])]
+            self.assertTrue(free, drawn)
+            for name in free:
+                drawn.pop(name)
+
+    def test_values_and_methods_have_names_of_their_own(self):
+        methods, values = set(), set()
+        taken = {name for kind in (str, int, list, dict, set, bytes) for name in dir(kind)}
+        for path in modules():
+            for node in ast.walk(ast.parse(path.read_text())):
+                if isinstance(node, ast.ClassDef):
+                    methods |= {inner.name for inner in node.body if isinstance(inner, ast.FunctionDef)}
+                if isinstance(node, ast.Attribute) and isinstance(node.ctx, ast.Store):
+                    values.add(node.attr)
+        methods.discard("__init__")
+        self.assertEqual(methods & values, set())
+        self.assertEqual((methods | values) & taken, set())
+
     def test_methods(self):
         own = [node.name for path in modules() for node in ast.walk(ast.parse(path.read_text()))
                if isinstance(node, ast.FunctionDef)]
