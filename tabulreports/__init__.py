@@ -1,1 +1,1 @@
-"""Reports of a tabulating room: what a report's text asks for, and what is wrong with it."""
+"""Reports of a tabulating room: what a report's text means of a deck, and the plan that brings it."""

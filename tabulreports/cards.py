@@ -9,6 +9,9 @@ CODES = 64
 FIGURES = {4: 0, 8: 1, 16: 2, 32: 3, 64: 4, 128: 5, 256: 6, 512: 7, 1024: 8, 2048: 9}
 MINUS_ROW = 1
 
+# No sum of amounts may come to this size, 10^16.
+SUM_LIMIT = 10000000000000000
+
 NO_DECK = -8
 
 

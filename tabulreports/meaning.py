@@ -4,13 +4,10 @@ Of k keys the groups of level 1 to k are told by where they end. The row of all 
 as if it were the one group of level k + 1: no card ends it, and no key is of its level.
 """
 
-from tabulreports.cards import amount_of
+from tabulreports.cards import SUM_LIMIT, amount_of
 from tabulreports.lines import blank_line, put_upon, show_number
 from tabulreports.ordering import key_field
 from tabulreports.parts import keys_of, listing_of, seens_of, totals_of
-
-# No sum over the first cards of a group comes to this size.
-MOST_SUM = 10000000000000000
 
 NOT_MET = -5
 
@@ -56,7 +53,7 @@ def stays_within(amounts, levels, level):
         if ended >= level:
             total = 0
         total += amount
-        if abs(total) >= MOST_SUM:
+        if abs(total) >= SUM_LIMIT:
             return False
     return True
 

@@ -30,10 +30,11 @@ SHOW_COUNTER = 1
 
 
 class Setup:
-    """A setup without sums: its head, its counters and its things shown, each of six numbers."""
+    """A setup without sums: its head, signs, and its counters and things shown, each of six numbers."""
 
-    def __init__(self, head, counters, things):
+    def __init__(self, head, signs, counters, things):
         self.head = head
+        self.signs = signs
         self.counters = counters
         self.things = things
 
@@ -154,12 +155,13 @@ def setup_things(keys, totals, seens):
     return things
 
 
-def make_plan(parts, strange):
+def make_plan(parts, signs):
     """The plan of a report."""
     keys = keys_of(parts)
     totals = totals_of(parts)
+    head = setup_head(parts, signs.strange)
     things = setup_things(keys, totals, seens_of(parts))
-    setup = Setup(setup_head(parts, strange), setup_counters(keys, totals), things)
+    setup = Setup(head, signs, setup_counters(keys, totals), things)
     return Plan(report_passes(parts), plan_panel(wheres_of(parts)), setup, plan_job(keys))
 
 

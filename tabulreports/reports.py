@@ -6,6 +6,7 @@ from tabulreports.lines import NO_SIGNS, read_signs
 from tabulreports.meaning import NOT_MET, meant_paper
 from tabulreports.ordering import meant_in_order
 from tabulreports.plans import make_plan, tell_plan
+from tabulreports.room import room_of, run_job
 from tabulreports.rows import join_rows
 
 
@@ -51,6 +52,23 @@ def plan(strange, text, legend):
     report = read_report(text)
     if report.refusal:
         return report.refusal
-    if read_signs(strange, legend) is None:
+    signs = read_signs(strange, legend)
+    if signs is None:
         return [NO_SIGNS]
-    return tell_plan(make_plan(report.parts, strange))
+    return tell_plan(make_plan(report.parts, signs))
+
+
+def planned(strange, text, legend, deck):
+    """What the plan's job does: its lines that are done, what's wrong, the paper; or the refusal."""
+    report = read_report(text)
+    if report.refusal:
+        return report.refusal
+    signs = read_signs(strange, legend)
+    if signs is None:
+        return [NO_SIGNS]
+    cards = read_deck(deck)
+    if cards is None:
+        return [NO_DECK]
+    made = make_plan(report.parts, signs)
+    room = room_of(made, cards)
+    return run_job(room, made.job) + join_rows(room.paper)

@@ -6,6 +6,7 @@ import random
 import unittest
 
 from cases import LEGEND, MET, NOT_MET, STRANGE, figures, punched
+from made import make_card, make_report
 from making import RUN, RUN_CARDS, SIGNS, Watched, card_of, deck_of, holes_of, text_of
 from second import amount, meant_cards, paper_lines
 from tabulreports.cards import amount_of, code_holes, read_deck
@@ -219,37 +220,12 @@ class HandedIn(unittest.TestCase):
 class AgainstTheWords(unittest.TestCase):
     """Many made reports and decks, always the same ones, against the second telling."""
 
-    def make_report(self, source):
-        lines = []
-        for turn in range(source.choice([0, 0, 1, 2])):
-            how = source.choice(["yes", "no", "no"])
-            lines.append("where %d %d %s" % (source.randrange(4), source.randrange(5), how))
-        for turn in range(source.randrange(4)):
-            numbers = (source.randrange(4), source.randrange(1, 3), source.randrange(8))
-            lines.append("key %d %d at %d by " % numbers + source.choice(["holes", "top"]))
-        for turn in range(source.randrange(4)):
-            numbers = (source.randrange(10, 14), source.randrange(1, 3), source.randrange(30), source.randrange(2, 9))
-            lines.append("sum %d %d at %d %d" % numbers if source.random() < 0.6 else "count at %d %d" % numbers[2:])
-        for turn in range(source.randrange(4)):
-            numbers = (source.randrange(14), source.randrange(1, 6), source.randrange(20, 126))
-            lines.append("see %d %d at %d" % numbers)
-        return lines + [source.choice(["list all", "list first", "list none"])]
-
-    def make_card(self, source):
-        pieces = [(column, source.choice("12AB ")) for column in range(5)]
-        pieces += [(column, source.choice("0123456789")) for column in range(10, 15)]
-        if source.random() < 0.2:
-            pieces.append((source.randrange(10, 15), 2))
-        if source.random() < 0.1:
-            pieces.append((source.randrange(14), source.randrange(4096)))
-        return card_of(*pieces)
-
     def test_made_reports(self):
         source = random.Random(7)
         met = 0
         for turn in range(500):
-            lines = self.make_report(source)
-            cards = [self.make_card(source) for card in range(source.randrange(12))]
+            lines = make_report(source)
+            cards = [make_card(source) for card in range(source.randrange(12))]
             expected = paper_lines(STRANGE, lines, LEGEND, cards)
             answer = shown(lines, cards)
             if expected is None:
@@ -265,8 +241,8 @@ class AgainstTheWords(unittest.TestCase):
         source = random.Random(8)
         fewer = 0
         for turn in range(200):
-            lines = self.make_report(source)
-            cards = [self.make_card(source) for card in range(source.randrange(12))]
+            lines = make_report(source)
+            cards = [make_card(source) for card in range(source.randrange(12))]
             meant = meant_cards(lines, cards)
             fewer += len(meant) < len(cards)
             self.assertEqual(shown(lines, cards), shown(lines, meant), lines)

@@ -7,6 +7,7 @@ import re
 import unittest
 
 from cases import LEGEND, MET, NOT_MET, STRANGE
+from made import make_long_report
 from making import RUN, Watched, text_of
 from second import plan_pieces
 from tabulreports.reports import judge, plan
@@ -230,23 +231,6 @@ class HandedIn(unittest.TestCase):
         self.assertEqual(out.getvalue(), "")
 
 
-def make_report(source):
-    """A report with as many parts of each sort as may be, or fewer."""
-    lines = []
-    for turn in range(source.choice([0, 1, 3, 16])):
-        lines.append("where %d %d %s" % (source.randrange(80), source.randrange(12), source.choice(["yes", "no"])))
-    for turn in range(source.randrange(4)):
-        length = source.randrange(1, 6)
-        numbers = (source.randrange(75), length, source.randrange(127))
-        lines.append("key %d %d at %d by " % numbers + source.choice(["holes", "top"]))
-    for turn in range(source.choice([0, 1, 2, 8])):
-        numbers = (source.randrange(62), source.randrange(1, 19), source.randrange(112), source.randrange(2, 21))
-        lines.append("sum %d %d at %d %d" % numbers if source.random() < 0.6 else "count at %d %d" % numbers[2:])
-    for turn in range(source.choice([0, 1, 2, 16])):
-        lines.append("see %d %d at %d" % (source.randrange(60), source.randrange(1, 21), source.randrange(112)))
-    return lines + [source.choice(["list all", "list first", "list none"])]
-
-
 class AgainstTheWords(unittest.TestCase):
     def test_the_reports_of_papers(self):
         for name, case in list(MET.items()) + list(NOT_MET.items()):
@@ -256,7 +240,7 @@ class AgainstTheWords(unittest.TestCase):
     def test_made_reports(self):
         source = random.Random(11)
         for turn in range(300):
-            lines = make_report(source)
+            lines = make_long_report(source)
             answer = plan(turn % 256, text_of(*lines), LEGEND)
             self.assertEqual(answer[0], judge(text_of(*lines))[1])
             self.assertEqual(pieces_of(answer), plan_pieces(turn % 256, lines), lines)
