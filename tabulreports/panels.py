@@ -3,6 +3,11 @@
 from tabulreports.cards import code_holes, row_holes
 
 
+def what_goes_into(hub, taken):
+    """What a hub that takes has got: nothing, where no wire leads to it."""
+    return taken.get(hub, 0)
+
+
 def what_is_sent(hub, card, taken):
     """What a hub sends for a card, by what the hubs that take have got."""
     word = hub[0]
@@ -12,11 +17,11 @@ def what_is_sent(hub, card, taken):
     if word == "send":
         return code_holes(number)
     if word == "hole":
-        return taken.get(("look", number), 0) & row_holes(hub[2])
+        return what_goes_into(("look", number), taken) & row_holes(hub[2])
     # What's left is chosen: a plan has no other hubs that send.
-    if taken.get(("by", number), 0):
-        return taken.get(("other", number), 0)
-    return taken.get(("plain", number), 0)
+    if what_goes_into(("by", number), taken):
+        return what_goes_into(("other", number), taken)
+    return what_goes_into(("plain", number), taken)
 
 
 def is_chosen(panel, card):
@@ -25,4 +30,4 @@ def is_chosen(panel, card):
     # A plan's wires to a box all stand before those from it: so one walk is enough.
     for sends, takes in panel:
         taken[takes] = what_is_sent(sends, card, taken)
-    return taken.get(("to", 0), 0) != 0
+    return what_goes_into(("to", 0), taken) != 0

@@ -167,6 +167,11 @@ MET = {
         amount_lines(SUM_18), [figures("9999999999999998", True), figures("1", True)], ["   " + MOST + "-"]),
     "the first cards stay within though the next would not alone": (
         amount_lines(SUM_18), [figures(MOST), figures(MOST, True), figures(MOST)], ["   " + MOST]),
+    "an amount too large that comes to less with the first cards": (
+        amount_lines(SUM_18), [figures("1", True), figures("10000000000000000")], ["   " + MOST]),
+    "the same below nought, in a group": (
+        ["key 79 1 at 30 by top", SUM_18, "list none"], [figures("1"), figures("10000000000000000", True)],
+        ["   " + MOST + "-", "   " + MOST + "-"]),
     "not meant and too large": (
         ["where 79 0 no", SUM_18, "list none"], [figures(MOST), card_of((17, "1"), (79, 1))],
         ["   " + MOST]),
